@@ -1,0 +1,162 @@
+"""The interface as a whole, and what a look at the files of the package can tell of the rules for them."""
+
+import ast
+import importlib
+import inspect
+import unittest
+from pathlib import Path
+
+PACKAGE = Path(__file__).resolve().parent.parent / "trellis"
+
+INTERFACE = {
+    "errors": {},
+    "graphs": {
+        "is_graph": ["value"],
+        "made_graph": ["n", "edges"],
+        "neighbours": ["graph", "v"],
+        "are_neighbours": ["graph", "u", "v"],
+        "inside": ["graph", "members"],
+        "components": ["graph"],
+        "is_connected": ["graph", "members"],
+        "complement": ["graph"],
+        "induced": ["graph", "members"],
+        "renamed": ["graph", "order"],
+        "beside": ["first", "second"],
+    },
+    "edits": {
+        "edited": ["graph", "edit"],
+        "undoing": ["graph", "edit"],
+    },
+    "families": {
+        "path_graph": ["n"],
+        "cycle_graph": ["n"],
+        "full_graph": ["n"],
+        "two_sided": ["a", "b"],
+        "grid_graph": ["rows", "columns"],
+    },
+}
+
+LIBRARY = {
+    "heapq": {"heappush", "heappop", "heapify", "heapreplace", "heappushpop"},
+    "math": {"gcd", "lcm", "isqrt", "comb", "perm", "factorial"},
+    "itertools": {
+        "product", "combinations", "permutations", "chain", "accumulate", "pairwise", "islice", "zip_longest",
+    },
+    "collections": {"defaultdict"},
+}
+
+BUILTINS = set(
+    "len range enumerate zip min max sum abs sorted reversed int str bool bytes list tuple dict set frozenset isinstance "
+    "ord repr any all divmod pow getattr hasattr setattr iter next map super property staticmethod classmethod "
+    "NotImplemented Exception ValueError TypeError KeyError IndexError LookupError ZeroDivisionError ArithmeticError "
+    "OverflowError RuntimeError NotImplementedError AttributeError StopIteration".split()
+)
+
+BARRED = (
+    ast.AsyncFunctionDef, ast.AsyncFor, ast.AsyncWith, ast.Await, ast.Global, ast.Div, ast.MatMult, ast.TypeIgnore,
+)
+
+
+def files():
+    return sorted(PACKAGE.rglob("*.py"))
+
+
+def trees():
+    return [(path.name, ast.parse(path.read_text())) for path in files()]
+
+
+def nodes():
+    return [(name, node) for name, tree in trees() for node in ast.walk(tree)]
+
+
+class Interface(unittest.TestCase):
+    def test_functions_have_their_names_and_arguments(self):
+        for module, functions in INTERFACE.items():
+            found = importlib.import_module("trellis." + module)
+            for name, arguments in functions.items():
+                self.assertEqual(list(inspect.signature(getattr(found, name)).parameters), arguments, name)
+
+    def test_functions_are_defined_where_they_are_listed(self):
+        for module, functions in INTERFACE.items():
+            tree = ast.parse((PACKAGE / (module + ".py")).read_text())
+            here = {node.name for node in tree.body if isinstance(node, ast.FunctionDef)}
+            self.assertLessEqual(set(functions), here)
+
+
+class Files(unittest.TestCase):
+    def test_the_folder_holds_modules_only(self):
+        for path in PACKAGE.iterdir():
+            self.assertTrue(path.suffix == ".py" or path.name == "__pycache__", path)
+        self.assertTrue((PACKAGE / "__init__.py").is_file())
+
+    def test_sizes(self):
+        for path in files():
+            lines = path.read_text().split("\n")
+            self.assertLessEqual(len(lines), 400, path)
+            self.assertLessEqual(max(len(line) for line in lines), 120, path)
+        for name, node in nodes():
+            if isinstance(node, ast.FunctionDef):
+                self.assertLessEqual(node.end_lineno - node.lineno + 1, 40, (name, node.name))
+
+    def test_characters(self):
+        for path in files():
+            found = set(path.read_text()) - set("\n") - {chr(k) for k in range(32, 127)}
+            self.assertEqual(found, set(), path)
+        for name, node in nodes():
+            if isinstance(node, ast.Constant) and isinstance(node.value, str):
+                self.assertNotIn("%", node.value, name)
+
+
+class Imports(unittest.TestCase):
+    def test_only_from_the_package_and_the_listed_library(self):
+        for name, node in nodes():
+            self.assertNotIsInstance(node, ast.Import, name)
+            if isinstance(node, ast.ImportFrom):
+                self.check_import(name, node)
+
+    def check_import(self, name, node):
+        self.assertEqual(node.level, 0, name)
+        words = {alias.name for alias in node.names}
+        if node.module.split(".")[0] != "trellis":
+            self.assertLessEqual(words, LIBRARY.get(node.module, set()), name)
+            return
+        path = PACKAGE / (node.module.split(".")[1] + ".py")
+        here = set()
+        for other in ast.parse(path.read_text()).body:
+            if isinstance(other, (ast.FunctionDef, ast.ClassDef)):
+                here.add(other.name)
+            elif isinstance(other, ast.Assign):
+                here.add(other.targets[0].id)
+        self.assertLessEqual(words, here, (name, node.module))
+
+
+class Words(unittest.TestCase):
+    def test_no_barred_statement_or_value(self):
+        for name, node in nodes():
+            self.assertNotIsInstance(node, BARRED, name)
+            if isinstance(node, ast.Constant):
+                self.assertNotIsInstance(node.value, (float, complex), name)
+
+    def test_module_level(self):
+        for name, tree in trees():
+            for at, node in enumerate(tree.body):
+                if isinstance(node, ast.Expr):
+                    self.assertTrue(at == 0 and isinstance(node.value, ast.Constant), name)
+                else:
+                    self.assertIsInstance(node, (ast.ImportFrom, ast.FunctionDef, ast.ClassDef, ast.Assign), name)
+
+    def test_only_the_listed_builtins_are_read(self):
+        for name, tree in trees():
+            bound = set()
+            for node in ast.walk(tree):
+                if isinstance(node, ast.Name) and not isinstance(node.ctx, ast.Load):
+                    bound.add(node.id)
+                elif isinstance(node, ast.arg):
+                    bound.add(node.arg)
+                elif isinstance(node, (ast.FunctionDef, ast.ClassDef, ast.MatchAs, ast.MatchStar)):
+                    bound.add(node.name)
+                elif isinstance(node, ast.alias):
+                    bound.add(node.name)
+            read = {node.id for node in ast.walk(tree) if isinstance(node, ast.Name)}
+            self.assertEqual(read - bound - BUILTINS, set(), name)
+            self.assertEqual(bound & BUILTINS, set(), name)

@@ -1,0 +1,1 @@
+"""Trellis: a workbench for graphs that shows its answers."""
