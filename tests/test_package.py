@@ -34,6 +34,33 @@ INTERFACE = {
         "two_sided": ["a", "b"],
         "grid_graph": ["rows", "columns"],
     },
+    "texts": {
+        "write_graph": ["graph"],
+        "write_value": ["value"],
+        "read_graph": ["text"],
+        "read_value": ["text"],
+    },
+    "questions": {
+        "is_question": ["graph", "value"],
+    },
+    "walks": {
+        "distances": ["graph", "v"],
+        "shortest_path": ["graph", "u", "v", "avoided"],
+        "is_path": ["graph", "value"],
+        "is_cycle": ["graph", "value"],
+        "shortest_cycle": ["graph"],
+    },
+    "bags": {
+        "is_decomposition": ["graph", "value"],
+        "width_of": ["decomposition"],
+        "from_order": ["graph", "order"],
+        "order_width": ["graph", "order"],
+        "made_small": ["graph", "decomposition"],
+        "meets": ["decomposition", "link"],
+        "touch": ["graph", "first", "second"],
+        "hits": ["members", "bramble"],
+        "least_hitting": ["graph", "bramble"],
+    },
 }
 
 LIBRARY = {

@@ -1,7 +1,8 @@
 """Edits: steps from one graph to the next one, and back."""
 
 from trellis.errors import BadEdit
-from trellis.graphs import MOST_VERTICES, are_neighbours, edge_of, graph_of, induced, is_vertex, neighbours
+from trellis.forms import is_vertex
+from trellis.graphs import MOST_VERTICES, are_neighbours, edge_of, graph_of, induced, neighbours
 
 
 def edited(graph, edit):

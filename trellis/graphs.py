@@ -1,13 +1,10 @@
 """Graphs: tuples (n, edges) with the vertices 0 to n - 1 and an ascending tuple of edges."""
 
 from trellis.errors import BadGraph
+from trellis.forms import are_edges, is_integer, is_tuple, is_vertex
+from trellis.tables import neighbour_lists
 
 MOST_VERTICES = 60
-
-
-def is_integer(value):
-    """Return whether a value is an integer, which a boolean is not."""
-    return isinstance(value, int) and not isinstance(value, bool)
 
 
 def is_size(value):
@@ -15,38 +12,12 @@ def is_size(value):
     return is_integer(value) and 1 <= value <= MOST_VERTICES
 
 
-def is_vertex(n, value):
-    """Return whether a value is one of the vertices 0 to n - 1."""
-    return is_integer(value) and 0 <= value < n
-
-
 def is_graph(value):
     """Return whether a value, whatever it is, is a graph."""
-    if not _is_pair(value):
+    if not is_tuple(value, 2):
         return False
     n, edges = value
-    return is_size(n) and isinstance(edges, tuple) and _are_edges(n, edges)
-
-
-def _is_pair(value):
-    return isinstance(value, tuple) and len(value) == 2
-
-
-def _are_edges(n, edges):
-    # No edge is as low as this pair, so that it can stand before the first one.
-    last = (0, 0)
-    for edge in edges:
-        if not _is_edge(n, edge) or edge <= last:
-            return False
-        last = edge
-    return True
-
-
-def _is_edge(n, value):
-    if not _is_pair(value):
-        return False
-    u, v = value
-    return is_vertex(n, u) and is_vertex(n, v) and u < v
+    return is_size(n) and are_edges(n, edges)
 
 
 def refuse_size(n):
@@ -98,23 +69,24 @@ def _edges_inside(graph, members):
 
 def components(graph):
     """Return the ascending list of the components, which are sets."""
+    around = neighbour_lists(graph)
     placed = set()
     found = []
     for v in range(graph[0]):
         if v not in placed:
-            part = _reached(graph, v)
+            part = _reached(around, v)
             for u in part:
                 placed.add(u)
             found.append(tuple(part))
     return found
 
 
-def _reached(graph, start):
+def _reached(around, start):
     seen = {start}
     waiting = [start]
     while waiting:
         v = waiting.pop()
-        for w in neighbours(graph, v):
+        for w in around[v]:
             if w not in seen:
                 seen.add(w)
                 waiting.append(w)
