@@ -61,6 +61,27 @@ INTERFACE = {
         "hits": ["members", "bramble"],
         "least_hitting": ["graph", "bramble"],
     },
+    "checking": {
+        "check": ["graph", "question", "paper"],
+    },
+    "sparse": {
+        "core_numbers": ["graph"],
+        "densest": ["graph"],
+    },
+    "modules": {
+        "is_module": ["graph", "members"],
+        "least_module": ["graph", "members"],
+        "strong_modules": ["graph"],
+        "module_tree": ["graph"],
+        "tree_graph": ["n", "tree"],
+    },
+    "drawings": {
+        "faces": ["graph", "rotation"],
+        "mirrored": ["rotation"],
+        "blocks": ["graph"],
+        "cut_vertices": ["graph"],
+        "dual_graph": ["graph", "rotation"],
+    },
 }
 
 LIBRARY = {

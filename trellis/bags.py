@@ -37,7 +37,7 @@ def _is_link(many, value):
 def _holds_edges(graph, bags):
     masks = [mask_of(bag) for bag in bags]
     ends = [mask_of(edge) for edge in graph[1]]
-    return all([any(mask & pair == pair for mask in masks) for pair in ends])
+    return all([any([is_within(pair, mask) for mask in masks]) for pair in ends])
 
 
 def _is_together(v, bags, links):
