@@ -31,7 +31,10 @@ class Graph:
         self.graph = graph
         self.n, self.edges = graph
         self.vertices = list(range(self.n))
-        self.near = {v: {u for u in self.vertices if (u, v) in self.edges or (v, u) in self.edges} for v in self.vertices}
+        self.near = {v: set() for v in self.vertices}
+        for u, v in self.edges:
+            self.near[u].add(v)
+            self.near[v].add(u)
 
     def joined(self, u, v):
         return u in self.near[v]

@@ -170,7 +170,8 @@ class FromOrder(unittest.TestCase):
                 self.right(graph, order)
 
     def test_some_orders_of_larger_graphs(self):
-        for graph in graphs_of_size(5)[::37] + [cycle_graph(7), grid_graph(2, 4), made_graph(7, [(0, 5), (5, 3), (1, 6)])]:
+        others = [cycle_graph(7), grid_graph(2, 4), made_graph(7, [(0, 5), (5, 3), (1, 6)])]
+        for graph in graphs_of_size(5)[::37] + others:
             n = graph[0]
             for step in (1, 2, 3, n - 1):
                 for start in range(n):

@@ -19,7 +19,7 @@ SHAPES = [(1, ()), (2, ()), (2, ((0, 1),)), (3, ()), (3, ((0, 1),)), path_graph(
 FIVES = [cycle_graph(5), two_sided(2, 3), (5, ((0, 1), (0, 2), (1, 2), (1, 3), (2, 4))), full_graph(5)]
 SPIDER = (7, ((0, 1), (0, 2), (0, 3), (1, 4), (2, 5), (3, 6)))
 PETERSEN = made_graph(
-    10, [(i, (i + 1) % 5) for i in range(5)] + [(i, i + 5) for i in range(5)] + [(5 + i, 5 + (i + 2) % 5) for i in range(5)]
+    10, [edge for i in range(5) for edge in ((i, (i + 1) % 5), (i, i + 5), (i + 5, (i + 2) % 5 + 5))]
 )
 
 
@@ -45,8 +45,8 @@ def changes(value):
         yield from ("yes", "no", value + "_", value.upper(), "", 0, None, (value,), value.encode(), Same(), Touchy())
         yield from ("union", "join", "clash", "degree", "graph", "complement")
     else:
-        yield from (value + 1, value - 1, -value, 0, 10 ** 30, float(value), str(value), (value,), None, Touchy(), "yes")
-        yield from (bool(value), value == 0)
+        yield from (value + 1, value - 1, -value, 0, 10 ** 30, bool(value), value == 0)
+        yield from (float(value), str(value), (value,), None, Touchy(), "yes")
 
 
 class Tries(unittest.TestCase):
@@ -135,7 +135,7 @@ class SmallGraphs(Tries):
 
     def test_papers_of_other_graphs(self):
         for graph, question, paper in self.papers(SHAPES[:11:2] + SHAPES[11:], 2):
-            for other in small_graphs()[::3] + FIVES[:1]:
+            for other in small_graphs()[:11] + small_graphs()[11::3] + FIVES[:1]:
                 if question[0] != "linked" or max(question[1:3]) < other[0]:
                     self.agrees(other, question, paper)
 
@@ -171,7 +171,8 @@ class AllSetsAndOrders(Tries):
     """Whatever is told by a set, an order or a row of vertices, for all of these."""
 
     def test_all_sets(self):
-        numbered = [(kind, k) for kind in ("degenerate", "indegree", "forests", "matching", "independent") for k in range(4)]
+        kinds = ("degenerate", "indegree", "forests", "matching", "independent")
+        numbered = [(kind, k) for kind in kinds for k in range(4)]
         for graph in small_graphs():
             for members in sets_of(graph[0]):
                 for question in [("connected",), ("bipartite",), ("prime",), *numbered]:
@@ -203,14 +204,32 @@ class AllSetsAndOrders(Tries):
                     for k in range(4):
                         self.agrees(graph, ("linked", s, t, k), ("no", members))
 
+    def test_all_tuples_of_paths(self):
+        for graph in SHAPES + FIVES:
+            for s, t in ((0, 1), (1, 0), (0, graph[0] - 1))[:2 * graph[0] - 2]:
+                paths = [found[0] for found in papers.linked_yes(naive.Graph(graph), s, t, 1)]
+                for many in range(4):
+                    for row in list(product(paths, repeat=many))[::1 if graph[0] < 5 else 13]:
+                        self.agrees(graph, ("linked", s, t, many), ("yes", row))
+                        self.agrees(graph, ("linked", s, t, 2), ("yes", row))
+
     def test_all_colourings_and_partitions(self):
         for graph in SHAPES:
             for k in range(4):
                 for colours in product(range(4), repeat=graph[0]):
                     self.agrees(graph, ("colours", k), ("yes", colours))
                 for partition in papers.partitions(list(range(graph[0]))):
-                    for form in (partition, partition[::-1], partition[1:], partition + ((0,),)):
+                    for form in (partition, partition[::-1], partition[1:], partition + ((0,),), ((), *partition)):
                         self.agrees(graph, ("trees", k), ("no", form))
+
+    def test_all_parts_of_edges(self):
+        for graph in SHAPES[:-1] + FIVES[:3]:
+            for many in range(4):
+                for parts in list(papers.parts_of_edges(naive.Graph(graph), many))[::1 if many < 3 else 3]:
+                    for k in range(4):
+                        self.agrees(graph, ("forests", k), ("yes", parts))
+                        self.agrees(graph, ("forests", k), ("yes", parts[1:]))
+                        self.agrees(graph, ("trees", k), ("yes", parts[:k]))
 
     def test_all_intervals_of_three(self):
         ends = list(product(range(3), repeat=2))
@@ -232,6 +251,25 @@ class AllSetsAndOrders(Tries):
                 for chain in list(product(arrows, repeat=many))[::1 if graph[0] < 4 else 3]:
                     self.agrees(graph, ("comparability",), ("no", chain))
 
+    def test_chains_of_all_pairs_of_three(self):
+        """Chains of pairs that may be no arrows, from each pair to the same with its ends exchanged."""
+        pairs = list(permutations(range(3), 2))
+        for graph in [graph for graph in small_graphs() if graph[0] == 3]:
+            for first, second, third in product(pairs, repeat=3):
+                for fourth in ((), (second,)):
+                    chain = (first, second, third, *fourth, first[::-1])
+                    self.agrees(graph, ("comparability",), ("no", chain))
+                    self.agrees(graph, ("permutation",), ("no", ("complement", chain)))
+
+    def test_chains_of_all_pairs_of_four(self):
+        triangle = ((0, 1), (2, 1), (2, 0), (1, 0))
+        for graph in small_graphs()[-64:]:
+            for chain in (triangle, ((0, 1), (0, 2), (1, 2), (1, 0)), ((0, 1), (0, 2), (3, 2), (3, 0), (1, 0)),
+                          ((0, 1), (2, 1), (2, 3), (0, 3), (0, 1), (1, 0))):
+                self.agrees(graph, ("comparability",), ("no", chain))
+                self.agrees(graph, ("permutation",), ("no", ("graph", chain)))
+                self.agrees(graph, ("permutation",), ("no", ("complement", chain)))
+
     def test_all_pairs_of_orders_of_three(self):
         for graph in SHAPES[3:7]:
             for orders in product(permutations(range(3)), repeat=2):
@@ -243,6 +281,25 @@ class AllSetsAndOrders(Tries):
                 self.agrees(graph, ("cograph",), ("yes", tree))
                 for words in (tree[1:], ("prime",) + tree[1:], ("union", tree), ("join", tree, 0)):
                     self.agrees(graph, ("cograph",), ("yes", words))
+
+    def test_all_colour_searches_with_two_splits(self):
+        for k, members in ((0, [(0,), (1,), (2,)]), (1, all_pairs(3))):
+            ends = [("clique", clique) for clique in members]
+            some = ends + [("split", u, v, a, b) for u, v in all_pairs(3) for a, b in product(ends, repeat=2)]
+            deep = [("split", u, v, a, b) for u, v in all_pairs(3) for a, b in product(some, repeat=2)]
+            for graph in SHAPES[1:7]:
+                for search in some + deep:
+                    self.agrees(graph, ("colours", k), ("no", search))
+
+    def test_all_set_searches_with_two_steps(self):
+        covers = ((), ((0,),), ((1,),), ((1, 2),), ((0,), (2,)), ((0,), (1,), (2,)))
+        ends = [("cover", cover) for cover in covers]
+        some = ends + [("take", v, a, b) for v in range(3) for a, b in product(ends, repeat=2)]
+        deep = [("take", v, a, b) for v in range(3) for a, b in product(some, repeat=2)]
+        for graph in SHAPES[1:7]:
+            for search in some + deep[::3]:
+                for k in (1, 2, 3):
+                    self.agrees(graph, ("independent", k), ("no", search))
 
     def test_all_brambles_of_two_and_three_sets(self):
         for graph in SHAPES[:7] + [SHAPES[14]]:
@@ -307,7 +364,8 @@ class Bodies(Tries):
             self.agrees(PETERSEN, ("planar",), changed)
 
     def test_paths_that_share_inner_vertices(self):
-        graph = made_graph(7, [pair for pair in FIVE if pair not in ((0, 1), (2, 3))] + [(0, 5), (1, 5), (2, 5), (3, 5)])
+        direct = [pair for pair in FIVE if pair not in ((0, 1), (2, 3))]
+        graph = made_graph(7, direct + [(0, 5), (1, 5), (2, 5), (3, 5)])
         paths = list(straight(range(5), FIVE))
         paths[FIVE.index((0, 1))] = (0, 5, 1)
         paths[FIVE.index((2, 3))] = (2, 5, 3)
@@ -392,6 +450,17 @@ class LargerGraphs(Tries):
         self.takes(empty, ("planar",), "yes", ((),) * 60)
         self.takes(empty, ("outerplanar",), "yes", order)
 
+    def test_the_least_blocks(self):
+        self.takes((1, ()), ("block",), "yes", ())
+        self.takes((2, ((0, 1),)), ("block",), "yes", ())
+        self.refuses((2, ()), ("block",), "yes", ())
+        self.takes((2, ()), ("block",), "no", ((), (1,)))
+        for graph in ((1, ()), (2, ()), (2, ((0, 1),))):
+            for ears in (((0,),), ((0, 1),), ((0, 1, 0),), ((),)):
+                self.refuses(graph, ("block",), "yes", ears)
+        self.refuses(full_graph(3), ("block",), "yes", ())
+        self.refuses(full_graph(3), ("block",), "yes", ((0, 1), (1, 2), (0, 2)))
+
     def test_ears_of_a_grid(self):
         graph = grid_graph(3, 3)
         ears = ((0, 1, 4, 3), (1, 2, 5, 4), (3, 6, 7, 4), (5, 8, 7))
@@ -400,14 +469,16 @@ class LargerGraphs(Tries):
         self.refuses(graph, ("block",), "yes", (ears[0], ears[3], ears[1], ears[2]))
         self.refuses(graph, ("block",), "yes", ears[1:])
         self.takes(graph, ("block",), "yes", ears + ((0, 1), (0, 1)))
+        for ear in ((0,), (), (8,), (0, 1, 0), (0, 2), (0, 1, 2), 0, [0, 1]):
+            self.refuses(graph, ("block",), "yes", ears + (ear,))
         for changed in changes(("yes", ears)):
             self.agrees(graph, ("block",), changed)
 
     def test_a_drawing_of_a_grid(self):
         rows, columns = 6, 10
+        around = [((i - 1, j), (i, j + 1), (i + 1, j), (i, j - 1)) for i in range(rows) for j in range(columns)]
         rotation = tuple(
-            tuple(10 * a + b for a, b in ((i - 1, j), (i, j + 1), (i + 1, j), (i, j - 1)) if 0 <= a < rows and 0 <= b < columns)
-            for i in range(rows) for j in range(columns)
+            tuple(10 * a + b for a, b in places if 0 <= a < rows and 0 <= b < columns) for places in around
         )
         graph = grid_graph(rows, columns)
         self.takes(graph, ("planar",), "yes", rotation)
@@ -421,9 +492,8 @@ class LargerGraphs(Tries):
         graph = grid_graph(4, 4)
         self.takes(graph, ("width", 4), "yes", (bags, links))
         self.refuses(graph, ("width", 3), "yes", (bags, links))
-        crosses = tuple(
-            tuple(sorted({4 * i + a for a in range(4)} | {4 * a + j for a in range(4)})) for i in range(4) for j in range(4)
-        )
+        lines = [({4 * i + a for a in range(4)}, {4 * a + j for a in range(4)}) for i in range(4) for j in range(4)]
+        crosses = tuple(tuple(sorted(row | column)) for row, column in lines)
         self.takes(graph, ("width", 2), "no", crosses)
         self.refuses(graph, ("width", 3), "no", crosses)
 
@@ -448,6 +518,50 @@ class LargerGraphs(Tries):
         self.refuses(other, ("permutation",), "no", ("graph", chain))
         for changed in changes(("no", ("graph", chain))):
             self.agrees(graph, ("permutation",), changed)
+
+
+class PairingSearches(Tries):
+    def test_graphs_whose_vertices_all_look_alike(self):
+        """A hexagon and two triangles: only clashes tell them apart."""
+        graph, other = cycle_graph(6), beside(full_graph(3), full_graph(3))
+        for question in (("isomorphic", other), ("isomorphic", renamed(other, (0, 3, 1, 4, 2, 5)))):
+            paper = ("no", next(papers.pairing_searches(naive.Graph(graph), naive.Graph(question[1]), [], 1)))
+            self.assertIn("clash", repr(paper))
+            self.takes(graph, question, *paper)
+            self.refuses(graph, ("isomorphic", graph), *paper)
+            for changed in list(changes(paper))[::11]:
+                self.agrees(graph, question, changed)
+
+    def test_every_reason_at_every_place(self):
+        path, star = path_graph(4), two_sided(1, 3)
+        reasons = [("clash",), ("degree",), ("sizes",)] + [("near", d) for d in range(-1, 4)]
+        for graph, other in product((path, star, beside(full_graph(3), (1, ()))), repeat=2):
+            for v in range(4):
+                for reason in reasons:
+                    search = ("try", v, (reason,) * 4)
+                    self.agrees(graph, ("isomorphic", other), ("no", search))
+                    self.agrees(graph, ("isomorphic", other), ("no", reason))
+                    for u, later in product(range(4), reasons):
+                        for at in range(4):
+                            second = ("try", u, (later,) * 3)
+                            search = ("try", v, (reason,) * at + (second,) + (reason,) * (3 - at))
+                            self.agrees(graph, ("isomorphic", other), ("no", search))
+
+    def test_a_vertex_that_is_in_a_pair_already(self):
+        degree = ("degree",)
+        again = ("try", 1, (degree, degree, degree))
+        question = ("isomorphic", two_sided(1, 3))
+        self.takes(path_graph(4), question, "no", ("try", 1, (degree, degree, degree, degree)))
+        self.refuses(path_graph(4), question, "no", ("try", 1, (degree, degree, degree, again)))
+        self.takes(path_graph(4), question, "no", ("try", 1, (degree, degree, degree, ("try", 2, (degree,) * 3))))
+
+    def test_different_sizes(self):
+        degree = ("degree",)
+        self.takes(path_graph(3), ("isomorphic", (3, ())), "no", ("sizes",))
+        self.takes(path_graph(3), ("isomorphic", (4, ((0, 1), (0, 2)))), "no", ("sizes",))
+        self.refuses(path_graph(3), ("isomorphic", (3, ())), "no", ("try", 0, (degree, degree, degree)))
+        self.refuses(path_graph(4), ("isomorphic", two_sided(1, 3)), "no", ("sizes",))
+        self.refuses(path_graph(3), ("isomorphic", path_graph(3)), "no", ("sizes",))
 
 
 class LargeNumbers(Tries):

@@ -12,7 +12,9 @@ CUBE = made_graph(8, [(i, (i + 1) % 4) for i in range(4)] + [(i + 4, (i + 1) % 4
                   + [(i, i + 4) for i in range(4)])
 CUBE_DRAWN = ((1, 3, 4), (2, 0, 5), (3, 1, 6), (0, 2, 7), (7, 5, 0), (4, 6, 1), (5, 7, 2), (6, 4, 3))
 # Two triangles, a square and an edge at the vertex 0, and further parts beside.
-FLOWER = made_graph(12, [(0, 1), (0, 2), (1, 2), (0, 3), (0, 4), (3, 4), (0, 5), (5, 6), (6, 7), (0, 7), (0, 8), (9, 11)])
+FLOWER = made_graph(
+    12, [(0, 1), (0, 2), (1, 2), (0, 3), (0, 4), (3, 4), (0, 5), (5, 6), (6, 7), (0, 7), (0, 8), (9, 11)]
+)
 
 
 def rotations(graph):
@@ -187,7 +189,8 @@ class DualGraph(unittest.TestCase):
     def fan(self, n):
         """Two neighbours that are neighbours of all vertices of a path, drawn without crossings: 2 * n - 4 faces."""
         last = n - 1
-        graph = made_graph(n, [(0, 1)] + [(c, v) for c in (0, 1) for v in range(2, n)] + [(v, v + 1) for v in range(2, last)])
+        spokes = [(c, v) for c in (0, 1) for v in range(2, n)]
+        graph = made_graph(n, [(0, 1)] + spokes + [(v, v + 1) for v in range(2, last)])
         items = [(*range(2, n), 1), (*range(last, 1, -1), 0)]
         for v in range(2, n):
             before = [v - 1] if v > 2 else []

@@ -8,7 +8,7 @@ from trellis.walks import distances, is_cycle, is_path, shortest_cycle, shortest
 
 FULL_60 = (60, tuple(all_pairs(60)))
 PETERSEN = made_graph(
-    10, [(i, (i + 1) % 5) for i in range(5)] + [(i, i + 5) for i in range(5)] + [(5 + i, 5 + (i + 2) % 5) for i in range(5)]
+    10, [edge for i in range(5) for edge in ((i, (i + 1) % 5), (i, i + 5), (i + 5, (i + 2) % 5 + 5))]
 )
 LONE_WITH_CYCLE = (6, ((1, 2), (1, 4), (2, 4), (3, 5)))
 

@@ -21,7 +21,7 @@ def read_graph(text):
     """Return the graph of a text."""
     lines = text.split("\n")
     # Behind the line feed of the last line nothing is left.
-    if len(lines) < 2 or lines[-1] != "":
+    if lines[-1] != "":
         raise BadText("the last line has no line feed")
     graph = _first_number(lines[0]), tuple([_pair(line) for line in lines[1:-1]])
     if not is_graph(graph):
