@@ -1,6 +1,7 @@
 """Graphs and values that the tests of several modules go through."""
 
 from itertools import combinations
+from random import Random
 
 
 class Same:
@@ -66,3 +67,30 @@ def joined_by_walks(graph, members):
         if not more:
             return seen == set(members)
         seen |= more
+
+
+def drawn_graphs(seed, sizes, many):
+    """So many graphs with each of some sizes, sparse and dense ones, always the same for a seed."""
+    draw = Random(seed)
+    found = []
+    for n in sizes:
+        for at in range(many):
+            share = (at + draw.random()) / many
+            found.append((n, tuple(pair for pair in all_pairs(n) if draw.random() < share)))
+    return found
+
+
+def drawn_order(seed, n):
+    order = list(range(n))
+    Random(seed).shuffle(order)
+    return tuple(order)
+
+
+def undone(order):
+    """The order that takes a renaming back."""
+    return tuple(order.index(v) for v in range(len(order)))
+
+
+def depth_of(value):
+    """How deep a value is nested."""
+    return 1 + max(map(depth_of, value), default=0) if isinstance(value, tuple) else 0

@@ -1,6 +1,7 @@
 """The interface as a whole, and what a look at the files of the package can tell of the rules for them."""
 
 import ast
+import builtins
 import importlib
 import inspect
 import unittest
@@ -81,6 +82,23 @@ INTERFACE = {
         "blocks": ["graph"],
         "cut_vertices": ["graph"],
         "dual_graph": ["graph", "rotation"],
+    },
+    "classes": {
+        "find_hole": ["graph"],
+        "forced_arrows": ["graph", "arrow"],
+        "arrow_classes": ["graph"],
+    },
+    "matchings": {
+        "largest_matching": ["graph"],
+        "barrier": ["graph"],
+    },
+    "alike": {
+        "rounds_of_degrees": ["graph"],
+        "symmetries": ["graph"],
+        "canonical": ["graph"],
+    },
+    "deciding": {
+        "decide": ["graph", "question"],
     },
 }
 
@@ -208,3 +226,39 @@ class Words(unittest.TestCase):
             read = {node.id for node in ast.walk(tree) if isinstance(node, ast.Name)}
             self.assertEqual(read - bound - BUILTINS, set(), name)
             self.assertEqual(bound & BUILTINS, set(), name)
+
+    def test_no_name_has_two_meanings_in_a_file(self):
+        for name, tree in trees():
+            imported = {alias.name for node in tree.body if isinstance(node, ast.ImportFrom) for alias in node.names}
+            classes = {node.name for node in tree.body if isinstance(node, ast.ClassDef)}
+            bound = set()
+            for node in ast.walk(tree):
+                if isinstance(node, ast.Name) and not isinstance(node.ctx, ast.Load):
+                    bound.add(node.id)
+                elif isinstance(node, ast.arg):
+                    bound.add(node.arg)
+                elif isinstance(node, ast.MatchAs):
+                    bound.add(node.name)
+            self.assertEqual(bound & (imported | classes | set(vars(builtins)) - {"_"}), set(), name)
+
+    def test_what_is_imported_is_used(self):
+        for name, tree in trees():
+            read = {node.id for node in ast.walk(tree) if isinstance(node, ast.Name)}
+            for node in tree.body:
+                if isinstance(node, ast.ImportFrom):
+                    self.assertLessEqual({alias.name for alias in node.names}, read, name)
+
+    def test_is_stands_beside_constants_only(self):
+        for name, node in nodes():
+            if isinstance(node, ast.Compare) and any(isinstance(op, (ast.Is, ast.IsNot)) for op in node.ops):
+                self.assertTrue(all(isinstance(other, ast.Constant) for other in node.comparators), name)
+
+    def test_no_files_import_from_each_other(self):
+        later = {path.stem: set() for path in files()}
+        for name, node in nodes():
+            if isinstance(node, ast.ImportFrom) and node.module.startswith("trellis."):
+                later[name[:-3]].add(node.module.split(".")[1])
+        while later:
+            free = [name for name in later if not later[name]]
+            self.assertTrue(free, later)
+            later = {name: later[name] - set(free) for name in later if name not in free}

@@ -3,7 +3,7 @@
 from trellis.forms import is_ascending, is_integer, is_set, is_tuple
 from trellis.graphs import is_connected
 from trellis.hitting import least_mask
-from trellis.tables import is_within, mask_of, members_of, neighbour_masks
+from trellis.tables import is_within, mask_of, members_of, near_of, neighbour_masks
 from trellis.walks import is_spanning_tree
 
 
@@ -131,15 +131,8 @@ def meets(decomposition, link):
 
 def touch(graph, first, second):
     """Return whether two sets have a common vertex or an edge between them."""
-    return mask_of(first) & _with_neighbours(neighbour_masks(graph), second) != 0
-
-
-def _with_neighbours(around, members):
-    """Return the mask of the members of a set and of all their neighbours."""
-    mask = mask_of(members)
-    for v in members:
-        mask |= around[v]
-    return mask
+    other = mask_of(second)
+    return mask_of(first) & (other | near_of(neighbour_masks(graph), other)) != 0
 
 
 def hits(members, bramble):
@@ -162,5 +155,5 @@ def is_bramble(graph, value):
         return False
     around = neighbour_masks(graph)
     masks = [mask_of(members) for members in value]
-    reached = [_with_neighbours(around, members) for members in value]
-    return all([masks[i] & reached[j] != 0 for i in range(len(masks)) for j in range(i)])
+    wider = [mask | near_of(around, mask) for mask in masks]
+    return all([masks[i] & wider[j] != 0 for i in range(len(masks)) for j in range(i)])

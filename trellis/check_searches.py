@@ -2,7 +2,7 @@
 
 from trellis.forms import are_edges_of, is_headed, is_integer, is_order, is_set, is_tuple, is_vertex
 from trellis.graphs import are_neighbours, components, induced, inside, neighbours, renamed
-from trellis.tables import full_mask, has, is_clique, is_within, mask_of, neighbour_masks
+from trellis.tables import full_mask, has, is_clique, is_within, joined, mask_of, merged, neighbour_masks
 
 
 def is_search_paper(graph, question, answer, data):
@@ -47,8 +47,8 @@ def _is_colour_search(graph, k, value):
                 return False
         elif _is_split(around, left, search):
             _, u, v, same, different = search
-            waiting.append((_merged(around, u, v), left & ~(1 << v), same))
-            waiting.append((_joined(around, u, v), left, different))
+            waiting.append((merged(around, u, v), left & ~(1 << v), same))
+            waiting.append((joined(around, u, v), left, different))
         else:
             return False
     return True
@@ -65,22 +65,6 @@ def _is_split(around, left, value):
         return False
     u, v = value[1:3]
     return has(left, u) and has(left, v) and not has(around[u], v)
-
-
-def _merged(around, u, v):
-    """Return the table of neighbours in which u got those of v, which is a neighbour of none any more."""
-    rows = [(row & ~(1 << v)) | 1 << u if has(row, v) else row for row in around]
-    rows[u] |= around[v]
-    rows[v] = 0
-    return rows
-
-
-def _joined(around, u, v):
-    """Return the table of neighbours in which u and v are neighbours."""
-    rows = list(around)
-    rows[u] |= 1 << v
-    rows[v] |= 1 << u
-    return rows
 
 
 def _is_set_search(graph, k, value):

@@ -1,7 +1,8 @@
 """Drawings of graphs: rotations and their faces; and blocks, the parts that can be drawn one by one."""
 
 from trellis.errors import BadGraph
-from trellis.graphs import MOST_VERTICES, components, graph_of, induced
+from trellis.graphs import MOST_VERTICES, components, graph_of
+from trellis.tables import neighbour_lists
 
 
 def faces(graph, rotation):
@@ -56,27 +57,47 @@ def dual_graph(graph, rotation):
 
 def blocks(graph):
     """Return the ascending list of the blocks, which are sets."""
-    found = []
-    waiting = [part for part in components(graph) if len(part) > 1]
-    while waiting:
-        members = waiting.pop()
-        parts = _parts(graph, members)
-        if len(parts) > 1:
-            waiting.extend(parts)
-        else:
-            found.append(members)
-    return sorted(found)
+    search = BlockSearch(neighbour_lists(graph))
+    for v in range(graph[0]):
+        search.begin(v)
+    return sorted(search.found)
 
 
-def _parts(graph, members):
-    """Return the sets into which a connected set falls at one of its vertices, which is in all of them."""
-    part = induced(graph, members)
-    cuts = cut_vertices(part)
-    if not cuts:
-        return [members]
-    cut = cuts[0]
-    sides = [side for side in components(_without_edges_of(part, cut)) if side != (cut,)]
-    return [tuple([members[v] for v in sorted([*side, cut])]) for side in sides]
+class BlockSearch:
+    """A walk through a graph that goes on from each vertex to a new one as long as it can, and finds its blocks."""
+
+    def __init__(self, around):
+        self.around = around
+        self.depth = {}
+        self.met = []
+        self.found = []
+
+    def begin(self, v):
+        """Walk on from a vertex that has not been met."""
+        if v not in self.depth:
+            self.depth[v] = 0
+            self.explore(v)
+
+    def explore(self, v):
+        """Walk on from a vertex, and return the least depth of the vertices that it and those behind it see."""
+        self.met.append(v)
+        least = self.depth[v]
+        for w in self.around[v]:
+            if w in self.depth:
+                least = min(least, self.depth[w])
+            else:
+                self.depth[w] = self.depth[v] + 1
+                seen = self.explore(w)
+                least = min(least, seen)
+                if seen >= self.depth[v]:
+                    self.close(v, w)
+        return least
+
+    def close(self, v, w):
+        """Make a block of v and what was met from w on, which is not seen from before v."""
+        at = self.met.index(w)
+        self.found.append(tuple(sorted([v, *self.met[at:]])))
+        self.met = self.met[:at]
 
 
 def _without_edges_of(graph, v):

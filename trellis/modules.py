@@ -3,7 +3,7 @@
 from trellis.errors import BadGraph
 from trellis.forms import is_integer, is_vertex
 from trellis.graphs import complement, graph_of, is_size
-from trellis.tables import full_mask, mask_of, members_of, neighbour_masks
+from trellis.tables import full_mask, mask_of, members_of, neighbour_masks, parts_of
 
 UNION = "union"
 JOIN = "join"
@@ -73,36 +73,13 @@ def _largest_inside(tables, mask):
     if len(members_of(mask)) == 1:
         return PRIME, []
     around, opposite = tables
-    parts = _connected_parts(around, mask)
+    parts = parts_of(around, mask)
     if len(parts) > 1:
         return UNION, parts
-    parts = _connected_parts(opposite, mask)
+    parts = parts_of(opposite, mask)
     if len(parts) > 1:
         return JOIN, parts
     return PRIME, _prime_parts(around, mask)
-
-
-def _connected_parts(around, mask):
-    """Return the list of the components of a set, by their least vertices."""
-    parts = []
-    while mask != 0:
-        part = _connected_to(around, mask)
-        parts.append(part)
-        mask &= ~part
-    return parts
-
-
-def _connected_to(around, mask):
-    """Return the component of a set that contains its least vertex."""
-    fresh = mask & -mask
-    seen = fresh
-    while fresh != 0:
-        near = 0
-        for v in members_of(fresh):
-            near |= around[v]
-        fresh = near & mask & ~seen
-        seen |= fresh
-    return seen
 
 
 def _prime_parts(around, mask):

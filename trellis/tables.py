@@ -52,7 +52,56 @@ def members_of(mask):
 
 def size_of(mask):
     """Return the number of vertices that a mask stands for."""
-    return len(members_of(mask))
+    return f"{mask:b}".count("1")
+
+
+def first_of(mask):
+    """Return the least vertex of a mask that is not empty."""
+    return (mask & -mask).bit_length() - 1
+
+
+def near_of(around, mask):
+    """Return the mask of the neighbours of the vertices of a mask, by a table of the masks of neighbours."""
+    near = 0
+    for v in members_of(mask):
+        near |= around[v]
+    return near
+
+
+def parts_of(around, mask):
+    """Return the list of the masks of the components of a mask, by their least vertices."""
+    parts = []
+    while mask != 0:
+        part = _connected_to(around, mask)
+        parts.append(part)
+        mask &= ~part
+    return parts
+
+
+def _connected_to(around, mask):
+    """Return the component of a mask that contains its least vertex."""
+    fresh = mask & -mask
+    seen = fresh
+    while fresh != 0:
+        fresh = near_of(around, fresh) & mask & ~seen
+        seen |= fresh
+    return seen
+
+
+def merged(around, u, v):
+    """Return the table of the masks of neighbours in which u got those of v, which is a neighbour of none any more."""
+    rows = [(row & ~(1 << v)) | 1 << u if has(row, v) else row for row in around]
+    rows[u] = (around[u] | around[v]) & ~(1 << u) & ~(1 << v)
+    rows[v] = 0
+    return rows
+
+
+def joined(around, u, v):
+    """Return the table of the masks of neighbours in which u and v are neighbours."""
+    rows = list(around)
+    rows[u] |= 1 << v
+    rows[v] |= 1 << u
+    return rows
 
 
 def has(mask, v):

@@ -25,12 +25,17 @@ def reached(around, start):
 
     The table around tells to which vertices one can go on from each vertex.
     """
+    return reached_by(lambda v: around[v], start)
+
+
+def reached_by(steps, start):
+    """Return such a dict for anything, where a function tells the list of all to which one can go on."""
     before = {start: start}
     layer = [start]
     while layer:
         further = []
         for v in layer:
-            for w in around[v]:
+            for w in steps(v):
                 if w not in before:
                     before[w] = v
                     further.append(w)
@@ -44,6 +49,33 @@ def way_to(v, before):
     while before[way[-1]] != way[-1]:
         way.append(before[way[-1]])
     return tuple(way[::-1])
+
+
+def searched(graph):
+    """Return a dict from each vertex to the one before it, each component from its first vertex on."""
+    around = neighbour_lists(graph)
+    before = {}
+    for v in range(graph[0]):
+        if v not in before:
+            before.update(reached(around, v))
+    return before
+
+
+def found_cycle(graph):
+    """Return a cycle, or None if there is none."""
+    before = searched(graph)
+    for u, v in graph[1]:
+        if before[u] != v and before[v] != u:
+            return closed_way(before, u, v)
+    return None
+
+
+def closed_way(before, u, v):
+    """Return the cycle that an edge closes with the ways to both of its ends, from where these ways part."""
+    first = way_to(u, before)
+    second = way_to(v, before)
+    common = len([a for a, b in zip(first, second) if a == b])
+    return first[common - 1:] + second[common:][::-1]
 
 
 def is_path(graph, value):
