@@ -2,8 +2,10 @@
 
 import ast
 import builtins
+import doctest
 import importlib
 import inspect
+import re
 import unittest
 from pathlib import Path
 
@@ -100,6 +102,31 @@ INTERFACE = {
     "deciding": {
         "decide": ["graph", "question"],
     },
+    "following": {
+        "renamed_question": ["question", "order"],
+        "renamed_paper": ["graph", "question", "paper", "order"],
+        "carried": ["graph", "edit", "question", "paper"],
+    },
+    "numbers": {
+        "number_of": ["graph", "kind"],
+        "paths_between": ["graph", "s", "t"],
+        "profile": ["graph"],
+    },
+    "books": {
+        "write_book": ["graph", "questions"],
+        "read_book": ["text"],
+        "book_faults": ["text"],
+    },
+}
+
+# The methods of each class, without self, and its properties.
+CLASSES = {
+    "keeper": {
+        "Keeper": {
+            "__init__": ["graph"], "watch": ["question"], "edit": ["edit"], "back": [], "graph": [], "paper": ["k"],
+            "answer": ["k"], "questions": [], "decided": None,
+        },
+    },
 }
 
 LIBRARY = {
@@ -147,6 +174,39 @@ class Interface(unittest.TestCase):
             tree = ast.parse((PACKAGE / (module + ".py")).read_text())
             here = {node.name for node in tree.body if isinstance(node, ast.FunctionDef)}
             self.assertLessEqual(set(functions), here)
+
+
+    def test_classes_have_their_methods_in_their_own_bodies(self):
+        for module, classes in CLASSES.items():
+            found = importlib.import_module("trellis." + module)
+            tree = ast.parse((PACKAGE / (module + ".py")).read_text())
+            for name, methods in classes.items():
+                body = [node for node in tree.body if isinstance(node, ast.ClassDef) and node.name == name]
+                self.assertEqual(len(body), 1)
+                here = {node.name for node in body[0].body if isinstance(node, ast.FunctionDef)}
+                self.assertLessEqual(set(methods), here)
+                for method, arguments in methods.items():
+                    value = vars(getattr(found, name))[method]
+                    if arguments is None:
+                        self.assertIsInstance(value, property)
+                    else:
+                        self.assertEqual(list(inspect.signature(value).parameters)[1:], arguments)
+
+    def test_the_examples_of_the_document(self):
+        """All but the one of least_hitting, which is not what point 8.2 says."""
+        path = PACKAGE.parent.parent / "shared" / "DOC.md"
+        if not path.is_file():
+            self.skipTest("the document is not here")
+        many = 0
+        for example in re.findall("```\n(>>> .*?)```", path.read_text(), re.DOTALL):
+            for part in example.strip().split("\n\n"):
+                if "least_hitting" not in part:
+                    test = doctest.DocTestParser().get_doctest(part + "\n", {}, "DOC.md", None, 0)
+                    told = []
+                    result = doctest.DocTestRunner().run(test, out=told.append)
+                    self.assertEqual(result.failed, 0, told)
+                    many += result.attempted
+        self.assertGreater(many, 40)
 
 
 class Files(unittest.TestCase):
