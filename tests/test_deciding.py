@@ -5,6 +5,7 @@ import answers
 import naive
 from helpers import depth_of, drawn_graphs, drawn_order, graphs_of_size, odd_values, small_graphs
 from papers import NUMBERED, PLAIN
+from trellis.bags import order_width
 from trellis.checking import check
 from trellis.deciding import decide
 from trellis.errors import BadQuestion, TrellisError
@@ -324,6 +325,14 @@ class Bags(Tries):
             (grid_graph(4, 4), 4), (two_sided(3, 5), 3), (beside(full_graph(3), full_graph(5)), 4),
             (complement(made_graph(10, [(i, i + 5) for i in range(5)])), 8), (beside(CUBE, OCTAHEDRON), 4),
         ):
+            self.answers(graph, ("width", width), "yes")
+            if width > 0:
+                self.answers(graph, ("width", width - 1), "no")
+
+
+    def test_the_least_width_over_all_orders(self):
+        for graph in small_graphs()[::3] + drawn_graphs(5, (5, 6), 6):
+            width = min(order_width(graph, order) for order in permutations(range(graph[0])))
             self.answers(graph, ("width", width), "yes")
             if width > 0:
                 self.answers(graph, ("width", width - 1), "no")

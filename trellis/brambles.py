@@ -8,8 +8,6 @@ two do not, the two ways to win the graph, with the one and with the other made 
 neither. And for any k + 1 vertices, some part of the rest contains one of them.
 """
 
-from itertools import combinations
-
 from trellis.narrow import narrow_order
 from trellis.tables import has, is_within, mask_of, members_of, merged, near_of, parts_of, size_of
 
@@ -80,11 +78,12 @@ def _bramble_of_small(around, whole, k):
 def _flaps(around, whole, most):
     """Return the list of the connected sets with at most so many neighbours, small ones first."""
     found = {}
-    members = list(members_of(whole))
-    for many in range(most + 1):
-        for taken in combinations(members, many):
-            for part in parts_of(around, whole & ~mask_of(taken)):
+    taken_out = [0]
+    for _ in range(most + 1):
+        for mask in taken_out:
+            for part in parts_of(around, whole & ~mask):
                 found[part] = True
+        taken_out = [mask | 1 << v for mask in taken_out for v in members_of(whole) if 1 << v > mask]
     return sorted(found, key=size_of)
 
 

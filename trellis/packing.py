@@ -1,7 +1,7 @@
 """The packing of edges into forests."""
 
 from trellis.graphs import edge_of
-from trellis.walks import searched, way_to
+from trellis.walks import parted_ways, searched, way_to
 
 
 def packed(graph, many):
@@ -60,12 +60,10 @@ def _in_the_way(tree, edge):
 
     The forest is told by a dict from each vertex to the one before it.
     """
-    first = way_to(edge[0], tree)
-    second = way_to(edge[1], tree)
-    common = len([u for u, v in zip(first, second) if u == v])
-    if common == 0:
+    fork, first, second = parted_ways(tree, edge[0], edge[1])
+    if fork is None:
         return None
-    return [edge_of(v, tree[v]) for v in first[common:] + second[common:]]
+    return [edge_of(v, tree[v]) for v in first + second]
 
 
 def _moved(places, chain, target):

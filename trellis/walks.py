@@ -72,10 +72,17 @@ def found_cycle(graph):
 
 def closed_way(before, u, v):
     """Return the cycle that an edge closes with the ways to both of its ends, from where these ways part."""
+    fork, first, second = parted_ways(before, u, v)
+    return (fork, *first, *second[::-1])
+
+
+def parted_ways(before, u, v):
+    """Return the last common vertex of the ways to two vertices, None if there is none, and the rests of both ways."""
     first = way_to(u, before)
     second = way_to(v, before)
-    common = len([a for a, b in zip(first, second) if a == b])
-    return first[common - 1:] + second[common:][::-1]
+    common = [a for a, b in zip(first, second) if a == b]
+    fork = common[-1] if common else None
+    return fork, first[len(common):], second[len(common):]
 
 
 def is_path(graph, value):
